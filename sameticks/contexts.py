@@ -3,8 +3,8 @@
 from sameticks.edits import joined
 from sameticks.profiles import profile_of
 from sameticks.programs import check_program
-from sameticks.tasks import run_program
 from sameticks.traces import PAUSE
+from sameticks.words import new_words, words_said
 
 
 def put_into(context, program):
@@ -21,7 +21,7 @@ def tell_apart(one, other):
     if profile == other_profile:
         return None
     context = _telling_context(profile, other_profile)
-    return (context, _said_in(context, one), _said_in(context, other))
+    return (context, words_said(joined(context, one)), words_said(joined(context, other)))
 
 
 def _telling_context(one, other):
@@ -31,7 +31,7 @@ def _telling_context(one, other):
     word in each tick at the place where it goes on, and a third one first if the program has failed. As no
     program of the two profiles says any of these words, the profile can be read from all that is said.
     """
-    words = _new_words(3, _words_of(one) + _words_of(other))
+    words = new_words(3, _words_of(one) + _words_of(other))
     # So many, that both words are said in the tick behind all in which anything is said or settled.
     many = 2 + max(len(one[0]), len(other[0]), one[1], other[1])
     begin, place, failed = [("say", word) for word in words]
@@ -44,22 +44,5 @@ def _telling_context(one, other):
     return (watch, (("repeat", many, (begin, PAUSE)),))
 
 
-def _new_words(many, used):
-    """So many words that are not used: numbers, the least first."""
-    found = []
-    number = 0
-    while len(found) < many:
-        if str(number) not in used:
-            found.append(str(number))
-        number += 1
-    return found
-
-
 def _words_of(profile):
     return [word for words in profile[0] for word in words]
-
-
-def _said_in(context, program):
-    """The words that are said when the program is put into the context and the result is run."""
-    entries = run_program(joined(context, program))[0]
-    return tuple([entry[2] for entry in entries])

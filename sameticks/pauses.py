@@ -9,6 +9,7 @@ from sameticks.searches import best_rows
 from sameticks.tasks import run_program
 from sameticks.traces import PAUSE
 from sameticks.watches import watched, words_by_tick
+from sameticks.words import words_said
 
 MOST_PAUSES = 3
 
@@ -24,10 +25,10 @@ def with_pauses(program, body, statement, count):
 def slack(program, body, statement, limit):
     """How many pauses, up to the limit, a place bears; raises NoSuchPlace."""
     check_place(program, body, statement)
-    words = _words_said(program)
+    words = words_said(program)
     count = 0
     while count < limit:
-        if _words_said(_with_pauses_unchecked(program, body, statement, count + 1)) != words:
+        if words_said(_with_pauses_unchecked(program, body, statement, count + 1)) != words:
             return count
         count += 1
     return count
@@ -55,10 +56,6 @@ def fewest_pauses(program, other, limit):
 
 def _with_pauses_unchecked(program, body, statement, count):
     return with_additions(program, {(body, statement): ("repeat", count, (PAUSE,))})
-
-
-def _words_said(program):
-    return [entry[2] for entry in run_program(program)[0]]
 
 
 def _places_of(program):

@@ -38,9 +38,12 @@ class Reference:
     def run(self):
         self.start(0)
         while self.jobs:
-            self.tick, job = self.jobs.pop(0)
-            job()
+            self.step()
         return (tuple(self.entries), tuple(task.outcome for task in self.tasks), self.tick)
+
+    def step(self):
+        self.tick, job = self.jobs.pop(0)
+        job()
 
     def queue(self, job):
         self.jobs.append((self.tick + 1, job))
@@ -272,3 +275,113 @@ class Programs:
             second = self.random.randint(0, statements - 1 - first)
             return ("try", block, self.block(number, bodies, second, depth - 1)), 1 + first + second
         return ("pause",), 1
+
+
+def frame_of(bodies, hole, at):
+    """The bodies with a statement that starts the hole put into body 0; `at` tells the place, block by block.
+
+    It is a tuple: the number of a statement; or first, for each try around, its number and 1 or 2 for its block
+    or its handler.
+    """
+    return (_with_hole(bodies[0], ("start", len(bodies), hole), at),) + tuple(bodies[1:])
+
+
+def _with_hole(block, start, at):
+    if len(at) == 1:
+        return block[:at[0]] + (start,) + block[at[0]:]
+    number, part = at[:2]
+    inner = list(block[number])
+    inner[part] = _with_hole(inner[part], start, at[2:])
+    return block[:number] + (tuple(inner),) + block[number + 1:]
+
+
+def hole_places(block):
+    """All places of a block that are not within a repeat, as `frame_of` takes them."""
+    found = [(at,) for at in range(len(block) + 1)]
+    for number, statement in enumerate(block):
+        if statement[0] == "try":
+            found += [(number, part) + at for part in (1, 2) for at in hole_places(statement[part])]
+    return found
+
+
+def pauses(count):
+    return (("pause",),) * count
+
+
+def simple_programs(settled, last, word="q"):
+    """Programs settled in this tick that say nothing, or the word once in some tick up to the last one.
+
+    Behind settled they say it ahead of the place, or, which needs 2 ticks or more, behind it.
+    """
+    say = (("say", word),)
+    found = []
+    for end in ((("return",),), (("fail",),)):
+        found.append((pauses(settled) + end,))
+        for tick in range(settled + 1):
+            found.append((pauses(tick) + say + pauses(settled - tick) + end,))
+        for tick in range(settled + 1, last + 1):
+            later = pauses(tick) + say
+            found.append(((("start", 1, "a"),) + pauses(settled) + end, later))
+            if settled >= 2:
+                starts = (("start", 1, "a"), ("start", 2, "b"), ("wait", "a"))
+                found.append((starts + pauses(settled - 2) + end, pauses(1), later))
+    return found
+
+
+def loop_after(program, deeds):
+    """A run after deeds from outside: ("start", body), or ("jobs", count)."""
+    told = Reference(program)
+    for kind, number in deeds:
+        if kind == "start":
+            told.start(number)
+        else:
+            for _ in range(number):
+                told.step()
+    return told
+
+
+def moments_of(program, starts):
+    """All moments that there are for starts, with the words that are said, in the order of the moments."""
+    if not starts:
+        return [((), ())]
+    found = []
+    for later in _later_moments(program, starts, (0,)):
+        told = loop_after(program, _deeds(starts, later))
+        while told.jobs:
+            told.step()
+        found.append((later, tuple(word for _, _, word in told.entries)))
+    return sorted(found)
+
+
+def _later_moments(program, starts, moments):
+    if len(moments) == len(starts):
+        return [moments]
+    found = []
+    told = loop_after(program, _deeds(starts, moments))
+    moment = moments[-1]
+    while True:
+        found += _later_moments(program, starts, moments + (moment,))
+        if not told.jobs:
+            return found
+        told.step()
+        moment += 1
+
+
+def _deeds(starts, moments):
+    deeds = []
+    done = 0
+    for body, moment in zip(starts, moments):
+        deeds += [("jobs", moment - done), ("start", body)]
+        done = moment
+    return deeds
+
+
+def said_how(program, starts, said):
+    """Which moments explain the words, or up to which of the words there are moments."""
+    most = 0
+    for moments, spoken in moments_of(program, starts):
+        same = max(count for count in range(len(said) + 1) if spoken[:count] == said[:count])
+        if same == len(said):
+            return ("moments", moments)
+        most = max(most, same)
+    return ("until", most)
