@@ -7,7 +7,7 @@ from sameticks.traces import traces_of
 
 def run_program(program):
     """What is said, how each task is settled, and the tick of the last job (0 if there was none)."""
-    run = Run(program)
+    run = Run(traces_of(program))
     run.start(0)
     while run.step():
         pass
@@ -25,19 +25,38 @@ class Task:
         self.children = []
         self.followers = []
 
+    def fork(self):
+        """Another task that is as far as this one."""
+        other = Task(self.trace)
+        other.done = self.done
+        other.settled = self.settled
+        other.children = list(self.children)
+        other.followers = list(self.followers)
+        return other
+
 
 class Run:
     """The tasks of a program (which may be greater than a program may be), and the queue of jobs.
 
-    A job is the pair of its tick and the number of the task that goes on with it.
+    It is made of the traces of the program. A job is the pair of its tick and the number of the task that goes
+    on with it.
     """
 
-    def __init__(self, program):
-        self.traces = traces_of(program)
+    def __init__(self, traces):
+        self.traces = traces
         self.started = []
         self.queue = deque()
         self.now = 0
         self.said = []
+
+    def fork(self):
+        """Another run that is as far as this one."""
+        other = Run(self.traces)
+        other.started = [task.fork() for task in self.started]
+        other.queue = deque(list(self.queue))
+        other.now = self.now
+        other.said = list(self.said)
+        return other
 
     def start(self, body):
         """Starts a task of a body; returns its number."""
