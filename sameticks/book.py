@@ -101,7 +101,9 @@ class Book:
         """Takes the latest deed back; returns whether there was one."""
         if len(self._deeds) == 0:
             return False
-        _, _, self._programs, self._users = self._deeds.pop()
+        _, _, programs, users = self._deeds.pop()
+        self._programs = programs
+        self._users = users
         return True
 
     def fork(self):

@@ -22,9 +22,9 @@ def best_rows(plan, wanted, budget):
         tick += 1
         ways = _best_of_each_point(search.ways_through_tick(ways, words))
         for way in ways:
-            if len(way.jobs) == 0 and tick >= len(wanted) and (best is None or way.cost() < best.cost()):
+            if len(way.present) == 0 and tick >= len(wanted) and (best is None or way.cost() < best.cost()):
                 best = way
-        ways = [way for way in ways if len(way.jobs) > 0]
+        ways = [way for way in ways if len(way.present) > 0]
     return None if best is None else best.rows
 
 
@@ -52,7 +52,7 @@ class Way:
     def __init__(self):
         # The jobs of the tick, and those of the next one: each a task, and the number of pauses that it
         # still does before it goes on.
-        self.jobs = [(0, 0)]
+        self.present = [(0, 0)]
         self.jobs_done = 0
         self.coming = []
         # How many words are said in the tick.
@@ -73,7 +73,7 @@ class Way:
     def branch(self):
         """Another way, so far the same."""
         other = Way()
-        other.jobs = self.jobs
+        other.present = self.present
         other.jobs_done = self.jobs_done
         other.coming = list(self.coming)
         other.said = self.said
@@ -88,7 +88,7 @@ class Way:
 
     def point(self):
         """All that what is still to come depends on, between two ticks."""
-        return (tuple(sorted(self.done.items())), tuple(self.jobs), self.kept)
+        return (tuple(sorted(self.done.items())), tuple(self.present), self.kept)
 
     def cost(self):
         """The less, the better."""
@@ -96,7 +96,7 @@ class Way:
 
     def take_job(self):
         """Begins the next job of the tick."""
-        task, pauses = self.jobs[self.jobs_done]
+        task, pauses = self.present[self.jobs_done]
         self.jobs_done += 1
         if pauses > 0:
             self.coming.append((task, pauses - 1))
@@ -129,7 +129,7 @@ class Way:
 
     def end_tick(self):
         """Goes over to the next tick."""
-        self.jobs = self.coming
+        self.present = self.coming
         self.jobs_done = 0
         self.coming = []
         self.said = 0
@@ -159,7 +159,7 @@ class Search:
             if len(way.acting) > 0:
                 if not self._does_step(way, words, left):
                     return False
-            elif way.jobs_done < len(way.jobs):
+            elif way.jobs_done < len(way.present):
                 way.take_job()
             else:
                 fits = way.said == len(words)

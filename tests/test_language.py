@@ -10,6 +10,11 @@ BUILTINS = (
     "len", "range", "enumerate", "zip", "min", "max", "sum", "abs", "sorted", "reversed", "int", "str", "bool",
     "list", "tuple", "dict", "set", "isinstance", "ord", "repr", "any", "all", "divmod", "ValueError",
 )
+METHODS_OF_VALUES = (
+    "append clear copy count endswith extend find get index insert isalnum isalpha isdigit islower isspace isupper "
+    "items join keys ljust lower lstrip partition pop remove replace reverse rfind rjust rpartition rsplit rstrip "
+    "setdefault split splitlines startswith strip update upper values zfill bit_length appendleft popleft"
+).split()
 LIBRARY = {
     "heapq": ("heappush", "heappop", "heapify", "heapreplace", "heappushpop"),
     "math": ("gcd", "lcm", "isqrt", "comb", "perm", "factorial"),
@@ -41,6 +46,21 @@ def names_known(tree):
         if isinstance(node, ast.Name) and isinstance(node.ctx, ast.Store):
             known.add(node.id)
     return known
+
+
+def names_of_attributes(context):
+    """The attributes that are assigned (ast.Store) or read (ast.Load) anywhere."""
+    return {
+        node.attr for _, tree in trees() for node in ast.walk(tree)
+        if isinstance(node, ast.Attribute) and isinstance(node.ctx, context)
+    }
+
+
+def names_of_methods():
+    return {
+        method.name for _, tree in trees() for node in tree.body if isinstance(node, ast.ClassDef)
+        for method in node.body if isinstance(method, ast.FunctionDef)
+    }
 
 
 class Language(unittest.TestCase):
@@ -91,6 +111,36 @@ class Language(unittest.TestCase):
             for node in ast.walk(tree):
                 if isinstance(node, ast.Name) and isinstance(node.ctx, ast.Load) and node.id not in known:
                     self.assertIn(node.id, BUILTINS, name)
+
+    def test_all_attributes_are_methods_or_assigned_somewhere(self):
+        known = names_of_methods() | names_of_attributes(ast.Store) | set(METHODS_OF_VALUES)
+        self.assertEqual(names_of_attributes(ast.Load) - known, set())
+        self.assertEqual(names_of_attributes(ast.Store).intersection(METHODS_OF_VALUES), set())
+
+    def test_no_name_in_a_function_hides_one_of_its_file(self):
+        for name, tree in trees():
+            known = set()
+            for node in tree.body:
+                if isinstance(node, ast.ImportFrom):
+                    known.update(alias.name for alias in node.names)
+                if isinstance(node, (ast.FunctionDef, ast.ClassDef)):
+                    known.add(node.name)
+            for node in ast.walk(tree):
+                if isinstance(node, ast.arg):
+                    self.assertNotIn(node.arg, known, name)
+                if isinstance(node, ast.Name) and isinstance(node.ctx, ast.Store):
+                    self.assertNotIn(node.id, known, name)
+
+    def test_modules_have_only_imports_definitions_and_values(self):
+        for name, tree in trees():
+            for number, node in enumerate(tree.body):
+                if isinstance(node, ast.Expr):
+                    self.assertEqual(number, 0, name)
+                    self.assertIsInstance(node.value.value, str, name)
+                elif isinstance(node, ast.Assign):
+                    ast.literal_eval(node.value)
+                else:
+                    self.assertIsInstance(node, (ast.ImportFrom, ast.FunctionDef, ast.ClassDef), name)
 
     def test_no_string_has_the_sign_that_is_left_out(self):
         for name, tree in trees():
