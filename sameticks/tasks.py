@@ -74,6 +74,10 @@ class Run:
         self._go_on(number)
         return True
 
+    def put_back(self, job):
+        """Makes a job the next one again."""
+        self.queue.appendleft(job)
+
     def _go_on(self, number):
         """Lets a task do its steps until it stops or is settled."""
         task = self.started[number]

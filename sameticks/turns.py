@@ -42,7 +42,7 @@ def take_back(run, turn):
     while len(run.queue) > turn.queued - own_job:
         run.queue.pop()
     if turn.job is not None:
-        run.queue.appendleft(turn.job)
+        run.put_back(turn.job)
         _take_back_steps(run, turn)
     del run.started[turn.started:]
     del run.said[turn.said:]

@@ -13,8 +13,10 @@ BUILTINS = (
 METHODS_OF_VALUES = (
     "append clear copy count endswith extend find get index insert isalnum isalpha isdigit islower isspace isupper "
     "items join keys ljust lower lstrip partition pop remove replace reverse rfind rjust rpartition rsplit rstrip "
-    "setdefault split splitlines startswith strip update upper values zfill bit_length appendleft popleft"
+    "setdefault split splitlines startswith strip update upper values zfill bit_length"
 ).split()
+# Those of deques that are no methods of other values.
+METHODS_OF_DEQUES = ("appendleft", "popleft", "extendleft", "rotate")
 LIBRARY = {
     "heapq": ("heappush", "heappop", "heapify", "heapreplace", "heappushpop"),
     "math": ("gcd", "lcm", "isqrt", "comb", "perm", "factorial"),
@@ -54,6 +56,14 @@ def names_of_attributes(context):
         node.attr for _, tree in trees() for node in ast.walk(tree)
         if isinstance(node, ast.Attribute) and isinstance(node.ctx, context)
     }
+
+
+def imports_deque(tree):
+    return any(
+        isinstance(node, ast.ImportFrom) and node.module == "collections"
+        and "deque" in [alias.name for alias in node.names]
+        for node in tree.body
+    )
 
 
 def names_of_methods():
@@ -113,9 +123,21 @@ class Language(unittest.TestCase):
                     self.assertIn(node.id, BUILTINS, name)
 
     def test_all_attributes_are_methods_or_assigned_somewhere(self):
-        known = names_of_methods() | names_of_attributes(ast.Store) | set(METHODS_OF_VALUES)
+        builtin = {*METHODS_OF_VALUES, *METHODS_OF_DEQUES}
+        known = names_of_methods() | names_of_attributes(ast.Store) | builtin
         self.assertEqual(names_of_attributes(ast.Load) - known, set())
-        self.assertEqual(names_of_attributes(ast.Store).intersection(METHODS_OF_VALUES), set())
+        self.assertEqual(names_of_attributes(ast.Store) & builtin, set())
+
+    def test_methods_of_deques_only_stand_where_deques_are_imported(self):
+        for name, tree in trees():
+            if not imports_deque(tree):
+                for node in ast.walk(tree):
+                    if isinstance(node, ast.Attribute):
+                        self.assertNotIn(node.attr, METHODS_OF_DEQUES, (name, node.lineno))
+
+    def test_nothing_is_called_as_methods_of_deques_are(self):
+        for name, tree in trees():
+            self.assertEqual(names_known(tree).intersection(METHODS_OF_DEQUES), set(), name)
 
     def test_no_name_in_a_function_hides_one_of_its_file(self):
         for name, tree in trees():
