@@ -1,20 +1,11 @@
 """Frames: whether two are alike whatever program is put into them."""
 
-from sameticks.edits import joined
-from sameticks.profiles import are_alike, standard_program
+from sameticks.fillings import AHEAD, UP_TO_SETTLED, Filling, chances, heard
 from sameticks.programs import check_frame
 from sameticks.traces import PAUSE
 from sameticks.words import new_words, words_in
 
-# Each statement that a frame does takes two ticks at most, and its size, in which all that it does is counted, is
-# at most 20. So it is at rest after fewer ticks than these, but for the time for which it waits for the program.
-REST = 40
-
-# Where a program says its words, as seen by a task that waited for it: up to the tick in which the program is
-# settled, and later ahead of the task or behind it.
-UP_TO_SETTLED = 0
-AHEAD = 1
-BEHIND = 2
+ENDS = (("return",), ("fail",))
 
 
 def alike_frames(one, other):
@@ -22,69 +13,46 @@ def alike_frames(one, other):
 
     What comes of a program in a frame depends on its profile only, and the words of the profile are moved about
     as they are. So one program for each tick and way of being settled tells all, if each of its words is another
-    one. When a program is settled later than both frames are at rest, it does not matter how much later.
+    one.
     """
     check_frame(one)
     check_frame(other)
-    for settled in range(REST + 1):
-        for returned in (True, False):
-            program = _talkative_program(one + other, settled, returned)
-            if not _are_alike_with(one, other, program):
-                return ("unlike", _telling_program(one, other, settled, returned))
+    pairs = [(end, Filling(one, end), Filling(other, end)) for end in ENDS]
+    rest = max([max(filling.rest(), other_filling.rest()) for _, filling, other_filling in pairs])
+    # Nothing that a frame does is delayed by more ticks than the program is. So both frames are at rest behind the
+    # tick `settled + rest`, and one tick more shows in which order all goes on. What does not wait for the program
+    # is done by the tick `rest`: when the program is settled later, it does not matter how much later.
+    for settled in range(rest + 2):
+        last = settled + rest + 1
+        for end, filling, other_filling in pairs:
+            log = filling.log(settled, last)
+            other_log = other_filling.log(settled, last)
+            if log != other_log:
+                say = ("say", new_words(1, words_in(one + other))[0])
+                chance = _telling_chance(log, other_log, chances(settled, last))
+                return ("unlike", _program_saying(say, chance, settled, end))
     return ("alike",)
 
 
-def _are_alike_with(one, other, program):
-    return are_alike(joined(one, program), joined(other, program))
+def _telling_chance(log, other_log, told):
+    """None if the logs differ without the program's words, or else the first of the chances that tells them apart.
 
-
-def _talkative_program(frames, settled, returned):
-    """A program settled in this tick, with a word of its own wherever one can be said."""
-    chances = _chances(settled)
-    words = new_words(len(chances), words_in(frames))
-    ticks = [() for _ in range(_silence(settled))]
-    for (tick, _), word in zip(chances, words):
-        ticks[tick] += (word,)
-    # Of the words of each tick behind settled, the first one is said ahead of the place.
-    before = (1,) * (len(ticks) - 1 - settled)
-    return standard_program((tuple(ticks), settled, returned, before))
-
-
-def _telling_program(one, other, settled, returned):
-    """The first program that is not alike in the frames, of those with one word at most.
-
-    If the talkative program is not alike in them, then one of these is not: it is a word's place among what the
-    frame does that differs, since the words of the program keep their order in all frames.
+    If the logs differ with all words, then with one at most: it is a word's place among what the frame does that
+    differs, since the words of the program keep their order in all frames.
     """
-    say = ("say", new_words(1, words_in(one + other))[0])
-    end = ("return",) if returned else ("fail",)
-    programs = [((*_pauses(settled), end),)]
-    for tick, side in _chances(settled):
-        programs.append(_program_saying(say, tick, side, settled, end))
+    chance = None
     at = 0
-    while _are_alike_with(one, other, programs[at]):
+    while heard(log, chance) == heard(other_log, chance):
+        chance = told[at]
         at += 1
-    return programs[at]
+    return chance
 
 
-def _chances(settled):
-    """Where a program that is settled in this tick can say words: pairs of a tick and a side, in order."""
-    chances = [(tick, UP_TO_SETTLED) for tick in range(settled + 1)]
-    for tick in range(settled + 1, _silence(settled)):
-        chances.append((tick, AHEAD))
-        # Who waits for a program that is settled so early goes on behind all that it does.
-        if settled >= 2:
-            chances.append((tick, BEHIND))
-    return chances
-
-
-def _silence(settled):
-    """The tick from which on the program says nothing: both frames have been at rest for one tick at least."""
-    return settled + REST + 2
-
-
-def _program_saying(say, tick, side, settled, end):
-    """A program that does one say statement in the tick, on the side, and the end statement when it is settled."""
+def _program_saying(say, chance, settled, end):
+    """A program that does one say statement at the chance, or none, and the end statement when it is settled."""
+    if chance is None:
+        return ((*_pauses(settled), end),)
+    tick, side = chance
     if side == UP_TO_SETTLED:
         return ((*_pauses(tick), say, *_pauses(settled - tick), end),)
     later = (*_pauses(tick), say)

@@ -2,11 +2,13 @@
 
 import inspect
 import itertools
+import time
 import unittest
 
 import reference
 from sameticks import frames
 from sameticks.errors import BadContext, BadFrame, TickError
+from sameticks.fillings import AHEAD, UP_TO_SETTLED, Filling, chances, heard
 from sameticks.frames import alike_frames
 from sameticks.profiles import profile_of, standard_program
 from sameticks.programs import check_frame, check_program
@@ -182,14 +184,21 @@ class Unlike(Compared):
         program = self.are_unlike(frame.format(waiting), frame.format("pause"))
         self.assertEqual(reference.profile(program)[1], 6)
 
+    def test_words_that_one_frame_says_long_after_the_other_one_is_at_rest(self):
+        late = "pause " * 10 + "say x"
+        for first in ("start {} a", "start {} a wait a", "start {} a adopt a"):
+            self.are_unlike(first.format(1), f"start 1 b {first.format(2)} ; {late}")
+
     def test_each_program_that_might_be_told(self):
         # What is told is chosen among these, so each has to be what it is meant to be.
         for settled, returned in itertools.product((0, 1, 2, 3, 7), (True, False)):
             end = ("return",) if returned else ("fail",)
-            for tick, side in frames._chances(settled):
-                program = frames._program_saying(("say", "x"), tick, side, settled, end)
-                before = () if side == frames.UP_TO_SETTLED else (0,) * (tick - settled - 1) + (
-                    (1,) if side == frames.AHEAD else (0,)
+            silent = frames._program_saying(("say", "x"), None, settled, end)
+            self.assertEqual(reference.profile(silent), ((), settled, returned, ()))
+            for tick, side in chances(settled, settled + 42):
+                program = frames._program_saying(("say", "x"), (tick, side), settled, end)
+                before = () if side == UP_TO_SETTLED else (0,) * (tick - settled - 1) + (
+                    (1,) if side == AHEAD else (0,)
                 )
                 ticks = ((),) * tick + (("x",),)
                 self.assertEqual(reference.profile(program), (ticks, settled, returned, before))
@@ -232,7 +241,7 @@ class ManyFrames(Compared):
             made = reference.Programs(seed, 1, (3, 6, 6, 7, 2, 0.3, 0.7, 2, 1))
             groups = {}
             for _ in range(many):
-                frame = self.frame(made, statements)
+                frame = random_frame(made, statements)
                 results = [reference.put(frame, program) for program in FEWER_PROGRAMS]
                 groups.setdefault(tuple(map(reference.profile, results)), []).append(frame)
             self.assertGreater(len(groups), 8)
@@ -243,16 +252,85 @@ class ManyFrames(Compared):
             for one, other in [*zip(ordered, ordered[1:]), *zip(ordered, ordered[2:])]:
                 self.are_told_apart(one[0], other[-1], alike_frames(one[0], other[-1]))
 
-    def frame(self, made, statements):
-        while True:
-            bodies = made.program(made.random.randint(1, 3), statements)
-            place = made.random.choice(reference.hole_places(bodies[0]))
-            frame = reference.frame_of(bodies, made.random.choice("ab"), place)
-            try:
-                check_frame(frame)
-            except BadFrame:
-                continue
-            return frame
+
+class Logs(unittest.TestCase):
+    """What the logs tell of a frame is what the programs do in it."""
+
+    def test_the_log_with_one_word_is_that_of_the_program(self):
+        made = reference.Programs(4, 1, (3, 6, 6, 7, 2, 0.3, 0.7, 2, 1))
+        some = [random_frame(made, 6) for _ in range(25)]
+        some += [frame_of("start 2 a start 1 b wait a wait b say y ; pause pause say x pause say x")]
+        for frame, end in itertools.product(some, frames.ENDS):
+            filling = Filling(frame, end)
+            for settled in (0, 1, 2, 5):
+                last = settled + filling.rest() + 1
+                log = filling.log(settled, last)
+                self.assertLessEqual(max(tick for tick, _ in log), last)
+                spoken = [(tick, word) for tick, word in log if not isinstance(word, str)]
+                if spoken:
+                    started = spoken[0][0]
+                    self.assertEqual([word for _, word in spoken], chances(settled, last - started))
+                for chance in (None, *(word for _, word in spoken)):
+                    program = frames._program_saying(("say", "q"), chance, settled, end)
+                    profile = reference.profile(reference.put(frame, program))
+                    self.assertEqual(self.profile_in(heard(log, chance)), profile, (frame, chance))
+
+    def profile_in(self, log):
+        """The profile that can be read in a log with one word of the program, "q", at most."""
+        words = [(tick, word if isinstance(word, str) else "q") for tick, word in log]
+        marks = [(tick, word) for tick, word in words if word.startswith("*")]
+        settled = marks[0][0] - 1
+        self.assertEqual([tick for tick, _ in marks], [*range(settled + 1, words[-1][0] + 1)])
+        count = max((tick + 1 for tick, word in words if not word.startswith("*")), default=0)
+        ticks = [[word for at, word in words if at == tick] for tick in range(count)]
+        before = tuple(ticks[tick].index(marks[0][1]) for tick in range(settled + 1, count))
+        told = tuple(tuple(word for word in here if not word.startswith("*")) for here in ticks)
+        return (told, settled, marks[0][1] == "*returned", before)
+
+
+class Time(Compared):
+    """Answers come soon."""
+
+    def takes_less(self, milliseconds, pairs):
+        """A call with one of these pairs takes less than this in the mean, in the best of some tries."""
+        tries = []
+        for _ in range(5):
+            begin = time.process_time()
+            for one, other in pairs:
+                alike_frames(one, other)
+            tries.append((time.process_time() - begin) * 1000 / len(pairs))
+        self.assertLess(min(tries), milliseconds)
+
+    def test_two_children_of_which_one_is_awaited(self):
+        frame = (
+            (("start", 1, "b"), ("start", 2, "a"), ("start", 1, "c"), ("wait", "a"), ("wait", "b")),
+            (("say", "x"), ("pause",), ("pause",), ("say", "y")),
+        )
+        self.assertEqual(self.tells(frame, frame), ALIKE)
+        self.takes_less(5, [(frame, frame)])
+
+    def test_to_fail_in_a_handler_as_without_it(self):
+        one = ((("start", 1, "a"), ("wait", "a")),)
+        other = ((("start", 1, "a"), ("try", (("wait", "a"),), (("fail",),))),)
+        self.assertEqual(self.tells(one, other), ALIKE)
+        self.takes_less(5, [(one, other), (other, one), (one, one), (other, other)])
+
+    def test_many_small_frames(self):
+        made = reference.Programs(6, 1, (3, 6, 6, 7, 2, 0.3, 0.7, 2, 1))
+        some = [random_frame(made, 6) for _ in range(60)]
+        self.takes_less(5, [*zip(some, some), *zip(some, some[1:])])
+
+
+def random_frame(made, statements):
+    while True:
+        bodies = made.program(made.random.randint(1, 3), statements)
+        place = made.random.choice(reference.hole_places(bodies[0]))
+        frame = reference.frame_of(bodies, made.random.choice("ab"), place)
+        try:
+            check_frame(frame)
+        except BadFrame:
+            continue
+        return frame
 
 
 FEWER_PROGRAMS = [
